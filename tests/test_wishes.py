@@ -181,23 +181,29 @@ class Great(unittest.TestCase):
 
 
 class ManyRooms(unittest.TestCase):
+    def check_same(self, parts, expected):
+        # Pair by pair: assertEqual takes far too long to write out how two such lists differ.
+        self.assertEqual(len(parts), len(expected))
+        for part, pair in zip(parts, expected):
+            self.assertEqual(part, pair)
+
     def test_some_hundreds(self):
         rooms = [(place, place * 7 % 900) for place in range(900)]
         by_rank = sorted(rooms, key=lambda room: (-room[1], room[0]))
         everything = sum(free for _, free in rooms)
-        self.assertEqual(dealt(rooms, everything), [room for room in by_rank if room[1] > 0])
-        self.assertEqual(dealt(rooms, by_rank[0][1] + 1), [by_rank[0], (by_rank[1][0], 1)])
+        self.check_same(dealt(rooms, everything), [room for room in by_rank if room[1] > 0])
+        self.check_same(dealt(rooms, by_rank[0][1] + 1), [by_rank[0], (by_rank[1][0], 1)])
         with self.assertRaises(TooFew):
             dealt(rooms, everything + 1)
 
     def test_some_hundreds_with_as_much_free(self):
         rooms = [(place, 2) for place in reversed(range(700))]
         parts = dealt(rooms, 1201)
-        self.assertEqual(parts, [(place, 2) for place in range(600)] + [(600, 1)])
+        self.check_same(parts, [(place, 2) for place in range(600)] + [(600, 1)])
 
     def test_every_place_there_can_be(self):
         rooms = [(place, 1) for place in range(10000)]
-        self.assertEqual(dealt(rooms, 10000), rooms)
+        self.check_same(dealt(rooms, 10000), rooms)
 
 
 class HandedIn(unittest.TestCase):
