@@ -6,10 +6,39 @@ import unittest
 
 PACKAGE = pathlib.Path(__file__).resolve().parent.parent / "stockfloor"
 
-INTERFACE = {
+CLASSES = {
     "errors.py": ("StockError", "BadWare", "BadPlace", "BadMany", "TooFew", "SamePlace",
                   "NoHold", "NoEntry", "NoLine"),
-    "wishes.py": ("dealt",),
+    "floor.py": ("Floor",),
+}
+
+FUNCTIONS = {
+    "wishes.py": {"dealt": ["rooms", "many"]},
+    "book.py": {"done": ["floor", "entry"], "replayed": ["book"], "fault": ["book"]},
+    "notes.py": {"shown": ["entry"], "read": ["line"]},
+}
+
+METHODS = {
+    "come": ["place", "ware", "many"],
+    "go": ["place", "ware", "many"],
+    "move": ["start", "goal", "ware", "many"],
+    "let": ["number"],
+    "take": ["number"],
+    "shift": ["number", "goal"],
+    "hold": ["place", "ware", "many"],
+    "counted": ["place", "ware", "many"],
+    "wish": ["ware", "many"],
+    "there": ["place", "ware"],
+    "held": ["place", "ware"],
+    "free": ["place", "ware"],
+    "whole": ["ware"],
+    "came": ["ware"],
+    "went": ["ware"],
+    "righted": ["ware"],
+    "places": ["ware"],
+    "numbers": [],
+    "holding": ["number"],
+    "book": [],
 }
 
 LIBRARY = ("__future__", "heapq", "math", "itertools", "collections")
@@ -30,6 +59,16 @@ def nodes():
             yield path.name, node
 
 
+def defined(within, kind):
+    """The classes or functions that stand in the body of a file or a class."""
+    return [node for node in within.body if isinstance(node, kind)]
+
+
+def plain_arguments(function):
+    """The names of a function's arguments; all that stands in its head, so that a star or a default shows."""
+    return ast.unparse(function.args).split(", ") if ast.unparse(function.args) else []
+
+
 class Package(unittest.TestCase):
     def test_the_folder_contains_python_files_only(self):
         for path in PACKAGE.rglob("*"):
@@ -37,13 +76,28 @@ class Package(unittest.TestCase):
                 self.assertEqual(path.suffix, ".py", path)
         self.assertTrue((PACKAGE / "__init__.py").is_file())
 
-    def test_each_name_of_the_interface_is_defined_in_its_file(self):
-        for file, names in INTERFACE.items():
-            tree = ast.parse((PACKAGE / file).read_text())
-            defined = [node.name for node in tree.body if isinstance(node, (ast.ClassDef, ast.FunctionDef))]
+    def test_each_class_of_the_interface_is_defined_in_its_file(self):
+        for file, names in CLASSES.items():
+            classes = defined(ast.parse((PACKAGE / file).read_text()), ast.ClassDef)
             for name in names:
                 with self.subTest(file=file, name=name):
-                    self.assertEqual(defined.count(name), 1)
+                    self.assertEqual([node.name for node in classes].count(name), 1)
+
+    def test_each_function_of_the_interface_is_defined_in_its_file(self):
+        for file, functions in FUNCTIONS.items():
+            found = defined(ast.parse((PACKAGE / file).read_text()), ast.FunctionDef)
+            for name, arguments in functions.items():
+                with self.subTest(file=file, name=name):
+                    self.assertEqual([plain_arguments(node) for node in found if node.name == name], [arguments])
+
+    def test_each_method_of_a_floor_is_defined_in_its_class(self):
+        classes = defined(ast.parse((PACKAGE / "floor.py").read_text()), ast.ClassDef)
+        floor = [node for node in classes if node.name == "Floor"][0]
+        methods = {node.name: plain_arguments(node) for node in defined(floor, ast.FunctionDef)}
+        for name, arguments in METHODS.items():
+            with self.subTest(name):
+                self.assertEqual(methods[name], ["self", *arguments])
+        self.assertEqual(methods["__init__"], ["self"])
 
     def test_nothing_is_imported_but_the_package_and_what_is_allowed(self):
         for file, node in nodes():
